@@ -18,7 +18,7 @@ func Run(p api.Program, e api.Edge, most int) (o api.Outcome, why api.Errno) {
 		}
 	}()
 	r := runner{left: most, slots: make([]api.Value, api.MaxSlots)}
-	r.out.Edge = api.Edge{Headers: slices.Clone(e.Headers), Status: e.Status}
+	r.out.Edge = api.Edge{Headers: append([]api.Header(nil), e.Headers...), Status: e.Status}
 	r.block(p.Code)
 	return r.out, api.OK
 }
