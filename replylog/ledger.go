@@ -75,8 +75,8 @@ func Append(l api.Ledger, r api.Reply) (api.Ledger, api.Errno) {
 	if e != api.OK {
 		return copyOf(l), e
 	}
-	// Without room behind the list, append always makes a new one.
-	replies := append(slices.Clip(l.Replies), r)
+	replies := append(make([]api.Reply, 0, len(l.Replies)+1), l.Replies...)
+	replies = append(replies, r)
 	return api.Ledger{Site: l.Site, Replies: replies, Tree: tree, Heads: slices.Clone(l.Heads)}, api.OK
 }
 
